@@ -25,9 +25,18 @@ type task struct {
 	do   func()
 }
 
+// note is an item that a machine has read whole when it had at bytes.
+type note struct {
+	what    string
+	section int64
+	n       int64 // its number, or of an entry or instruction the place of its first byte
+	at      int64
+}
+
 // machine reads as chapter 5.2 says; it is handed one byte after the other, so
 // that no fault can hang on a byte that is still to come.
 type machine struct {
+	notes []note
 	at    int64 // bytes handed in
 	fault verdict
 	ends  []int64
@@ -49,6 +58,22 @@ func newMachine() *machine {
 }
 
 func (k *machine) fail(err int64) { k.fault = verdict{err, k.at} }
+
+func (k *machine) say(what string, n int64) {
+	k.notes = append(k.notes, note{what, k.last, n, k.at})
+}
+
+// whole says of each entry that it is read, when it is.
+func (k *machine) whole(entry func() []task) func() []task {
+	return func() []task {
+		begin := k.at
+		return append(entry(), task{do: func() { k.say("entry", begin) }})
+	}
+}
+
+func (k *machine) saying(what string) task {
+	return task{do: func() { k.say(what, 0) }}
+}
 
 func (k *machine) next(tasks ...task) {
 	for i := range tasks {
@@ -168,6 +193,7 @@ func (k *machine) bytes(n int64) task {
 
 func (k *machine) name() task {
 	return k.size(func(n int64) {
+		k.say("name", n)
 		if n > 0 {
 			k.next(k.characters(n))
 		}
@@ -253,6 +279,11 @@ func (k *machine) instruction() task {
 		if len(k.nest) > 0 {
 			k.next(k.instruction())
 		}
+		if op >= 0x02 && op <= 0x04 {
+			k.say("block", int64(last)+1)
+		}
+		begin := k.at - 1
+		k.next(task{do: func() { k.say("ins", begin) }})
 		k.operands(op)
 		return true
 	}}
@@ -265,7 +296,10 @@ func (k *machine) operands(op byte) {
 	case op == 0x0c || op == 0x0d || op == 0x10 || op >= 0x20 && op <= 0x24:
 		k.next(k.index())
 	case op == 0x0e:
-		k.next(k.vector(func() []task { return []task{k.index()} }), k.index())
+		k.next(k.u32(func(n int64) {
+			k.say("labels", n)
+			k.next(k.times(n, func() []task { return []task{k.index()} }))
+		}), k.index())
 	case op == 0x11:
 		k.next(k.index(), k.exactly(impl.BinForm, 0))
 	case op >= 0x28 && op <= 0x3e:
@@ -328,19 +362,26 @@ func (k *machine) funcType() []task {
 func (k *machine) code() []task {
 	return []task{k.within(func() []task {
 		var sum int64
-		return []task{k.vector(func() []task {
+		group := func() []task {
 			n := k.u32(func(n int64) {
 				if sum += n; sum >= 1<<32 {
 					k.fail(impl.BinLocals)
+					return
 				}
+				k.say("locals", n)
 			})
-			return []task{n, k.valueType()}
-		}), k.list()}
+			return []task{n, k.valueType(), k.saying("group")}
+		}
+		groups := k.u32(func(n int64) {
+			k.say("groups", n)
+			k.next(k.times(n, group))
+		})
+		return []task{groups, k.list()}
 	})}
 }
 
 func (k *machine) data() []task {
-	return []task{k.exactly(impl.BinForm, 0), k.list(), k.size(func(n int64) { k.next(k.bytes(n)) })}
+	return []task{k.exactly(impl.BinForm, 0), k.saying("segment"), k.list(), k.size(func(n int64) { k.next(k.bytes(n)) })}
 }
 
 func (k *machine) content(number byte) task {
@@ -351,27 +392,28 @@ func (k *machine) content(number byte) task {
 			k.next(k.name(), rest)
 		}}
 	case 1:
-		return k.vector(k.funcType)
+		return k.vector(k.whole(k.funcType))
 	case 2:
-		return k.vector(k.imported)
+		return k.vector(k.whole(k.imported))
 	case 3:
 		return k.u32(func(n int64) {
 			k.funcs = n
-			k.next(k.times(n, func() []task { return []task{k.index()} }))
+			k.next(k.times(n, k.whole(func() []task { return []task{k.index()} })))
 		})
 	case 4:
-		return k.vector(k.table)
+		return k.vector(k.whole(k.table))
 	case 5:
-		return k.vector(func() []task { return []task{k.limits()} })
+		return k.vector(k.whole(func() []task { return []task{k.limits()} }))
 	case 6:
-		return k.vector(func() []task { return append(k.globalType(), k.list()) })
+		return k.vector(k.whole(func() []task { return append(k.globalType(), k.list()) }))
 	case 7:
-		return k.vector(func() []task { return []task{k.name(), k.exactly(impl.BinForm, 0, 1, 2, 3), k.index()} })
+		return k.vector(k.whole(func() []task { return []task{k.name(), k.exactly(impl.BinForm, 0, 1, 2, 3), k.index()} }))
 	case 8:
-		return k.index()
+		return task{do: func() { k.next(k.whole(func() []task { return []task{k.index()} })()...) }}
 	case 9:
 		return k.vector(func() []task {
-			return []task{k.exactly(impl.BinForm, 0), k.list(), k.vector(func() []task { return []task{k.index()} })}
+			funcs := k.vector(func() []task { return []task{k.u32(func(n int64) { k.say("elem", n) })} })
+			return []task{k.exactly(impl.BinForm, 0), k.saying("segment"), k.list(), funcs}
 		})
 	case 10:
 		return k.u32(func(n int64) {

@@ -460,8 +460,8 @@ func (f *refFaults) segments() {
 	for i, e := range f.m.Elems {
 		f.add(f.s.tables == 0, impl.VaIndex, 9, i, 0, 0)
 		f.constant(e.Offset, 0x7f, 9, i)
-		for _, n := range e.Funcs {
-			f.add(n >= int64(len(f.s.funcs)), impl.VaIndex, 9, i, 0, 1<<40)
+		for j, n := range e.Funcs {
+			f.add(n >= int64(len(f.s.funcs)), impl.VaIndex, 9, i, 0, 1<<40+int64(j))
 		}
 	}
 	for i, d := range f.m.Datas {
@@ -476,7 +476,7 @@ func (f *refFaults) bodies() {
 		r := newRefBody(f.m, int64(i))
 		for pos, x := range c.Body {
 			if err := r.step(x); err != 0 {
-				f.add(true, err, 10, i, int64(pos), 0)
+				f.add(true, err, 10, i, int64(pos), int64(pos)+1)
 				break
 			}
 		}
@@ -484,21 +484,26 @@ func (f *refFaults) bodies() {
 }
 
 // least is the fault that comes first, the zero value if there is none.
-func (f *refFaults) least() impl.ValRes {
+func (f *refFaults) least() refFault {
 	if len(f.list) == 0 {
-		return impl.ValRes{}
+		return refFault{}
 	}
 	return slices.MinFunc(f.list, func(a, b refFault) int {
 		return cmp.Or(cmp.Compare(a.Section, b.Section), cmp.Compare(a.Index, b.Index), cmp.Compare(a.order, b.order))
-	}).ValRes
+	})
 }
 
-// wantValid is what Validate has to say: all faults are gathered, and the
-// first one in the document's order is taken.
+// wantValid is what Validate has to say.
 func wantValid(m impl.Module) impl.ValRes {
 	if !impl.WellFormed(m) {
 		return impl.ValRes{Err: impl.VaForm}
 	}
+	return firstWrong(m).ValRes
+}
+
+// firstWrong gathers all faults of a module that is well formed, and takes the
+// first one in the document's order.
+func firstWrong(m impl.Module) refFault {
 	f := refFaults{m: m, s: spacesOf(m)}
 	f.imports()
 	for i, g := range m.Globals {
