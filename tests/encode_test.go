@@ -173,9 +173,10 @@ func TestNumbersOfEveryFieldAreWritten(t *testing.T) {
 	}
 }
 
-func TestWhatIsNotWellFormedIsNotWritten(t *testing.T) {
+// notWellFormed has modules with one thing each that is not as it should be.
+func notWellFormed() map[string]impl.Module {
 	end := insList(0x0b)
-	bad := map[string]impl.Module{
+	return map[string]impl.Module{
 		"type":           {Types: []impl.FuncType{{Params: []int64{0x40}}}},
 		"two results":    {Types: []impl.FuncType{{Results: []int64{0x7f, 0x7f}}}},
 		"stray type":     {Imports: []impl.Import{{Kind: impl.KindMem, Type: 1}}},
@@ -195,6 +196,7 @@ func TestWhatIsNotWellFormedIsNotWritten(t *testing.T) {
 		"open data":      {Datas: []impl.Data{{Offset: insList(0x0b, 0x0b)}}},
 		"else":           {Funcs: []int64{0}, Codes: []impl.Code{{Body: insList(0x05, 0x0b)}}},
 		"opcode":         {Funcs: []int64{0}, Codes: []impl.Code{{Body: insList(0x06, 0x0b)}}},
+		"upper half":     {Funcs: []int64{0}, Codes: []impl.Code{{Body: []impl.Ins{{Op: 0x43, V: 1 << 32}, {Op: 0x0b}}}}},
 		"stray field":    {Funcs: []int64{0}, Codes: []impl.Code{{Body: []impl.Ins{{Op: 0x0b, V: 1}}}}},
 		"groups": {Funcs: []int64{0}, Codes: []impl.Code{{Body: end, Locals: []impl.Group{
 			{N: math.MaxUint32, Type: 0x7f}, {N: 1, Type: 0x7f}}}}},
@@ -202,7 +204,10 @@ func TestWhatIsNotWellFormedIsNotWritten(t *testing.T) {
 		"custom's place": {Customs: []impl.Custom{{After: 1}}},
 		"customs' order": {Mems: []impl.Limits{{}}, Customs: []impl.Custom{{After: 5}, {After: 0}}},
 	}
-	for name, m := range bad {
+}
+
+func TestWhatIsNotWellFormedIsNotWritten(t *testing.T) {
+	for name, m := range notWellFormed() {
 		if got := impl.Encode(m); len(got) != 0 {
 			t.Errorf("%s: written % x", name, got)
 		}
