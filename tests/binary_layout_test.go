@@ -1,6 +1,7 @@
 package tests
 
 import (
+	"bytes"
 	"math"
 	"math/rand"
 	"reflect"
@@ -193,6 +194,9 @@ func sameValue(a, b reflect.Value) bool {
 	case reflect.Slice:
 		if a.Len() != b.Len() {
 			return false
+		}
+		if a.Type().Elem().Kind() == reflect.Uint8 {
+			return bytes.Equal(a.Bytes(), b.Bytes())
 		}
 		for i := range a.Len() {
 			if !sameValue(a.Index(i), b.Index(i)) {

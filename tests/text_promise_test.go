@@ -277,6 +277,9 @@ func stretches(v reflect.Value, where string) []stretch {
 		if v.Cap() > 0 {
 			out = append(out, stretch{v.Pointer(), v.Pointer() + uintptr(v.Cap())*size, where})
 		}
+		if kind := v.Type().Elem().Kind(); kind != reflect.Slice && kind != reflect.Struct {
+			return out
+		}
 		for i := range v.Len() {
 			out = append(out, stretches(v.Index(i), fmt.Sprintf("%s[%d]", where, i))...)
 		}

@@ -273,7 +273,7 @@ func (k maker) fillModule(m *impl.Module) {
 			return e
 		})
 	}
-	for range m.Funcs {
+	for len(m.Codes) < len(m.Funcs) {
 		m.Codes = append(m.Codes, impl.Code{Locals: k.groups()})
 	}
 	for i := range m.Codes {
