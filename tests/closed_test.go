@@ -217,9 +217,10 @@ func wantClosed(ops []int64) bool {
 	return ok && len(rest) == 0
 }
 
-func TestEveryShortList(t *testing.T) {
+// everyShortList has all lists of at most seven instructions, each a nop or one
+// that opens or ends a block.
+func everyShortList(do func(ops []int64)) {
 	alphabet := []int64{0x01, 0x02, 0x03, 0x04, 0x05, 0x0b}
-	closed := 0
 	for size := range 8 {
 		ops := make([]int64, size)
 		count := int(math.Pow(float64(len(alphabet)), float64(size)))
@@ -228,15 +229,22 @@ func TestEveryShortList(t *testing.T) {
 				ops[i] = alphabet[number%len(alphabet)]
 				number /= len(alphabet)
 			}
-			want := wantClosed(ops)
-			if got := impl.Closed(insList(ops...)); got != want {
-				t.Fatalf("%x: %v", ops, got)
-			}
-			if want {
-				closed++
-			}
+			do(ops)
 		}
 	}
+}
+
+func TestEveryShortList(t *testing.T) {
+	closed := 0
+	everyShortList(func(ops []int64) {
+		want := wantClosed(ops)
+		if got := impl.Closed(insList(ops...)); got != want {
+			t.Fatalf("%x: %v", ops, got)
+		}
+		if want {
+			closed++
+		}
+	})
 	if closed < 500 {
 		t.Errorf("only %d lists were closed", closed)
 	}
