@@ -44,8 +44,9 @@ func firstErr(errs ...int64) int64 {
 	return 0
 }
 
-// TestInvokeErrs: each Err alone, and with all that come behind it.
-func TestInvokeErrs(t *testing.T) {
+// everyCause has what a function can be run with, of which any may be wrong,
+// and the Err of it.
+func everyCause(do func(s impl.Store, f int64, args []uint64, fuel int64, err int64)) {
 	s := stage("i32 i64 f32 f64 -> i64", "", "local.get 1")
 	funcs := map[int64][]int64{0: {4}, 2: {-1, 0, 1, 2, 3, 9, 10, math.MinInt64, math.MaxInt64, 1<<32 + 4, -4}}
 	args := map[int64][][]uint64{
@@ -60,11 +61,7 @@ func TestInvokeErrs(t *testing.T) {
 						for _, list := range lists {
 							for e4, all := range fuels() {
 								for _, fuel := range all {
-									got := impl.Invoke(given, f, list, fuel)
-									err := firstErr(e1, e2, e3, e4)
-									if got.Err != err || err != 0 && !same(got, impl.RunRes{Err: err}) {
-										t.Fatalf("causes %v: f %d, %v, fuel %d: %+v", []int64{e1, e2, e3, e4}, f, list, fuel, got.Err)
-									}
+									do(given, f, list, fuel, firstErr(e1, e2, e3, e4))
 								}
 							}
 						}
@@ -73,6 +70,17 @@ func TestInvokeErrs(t *testing.T) {
 			}
 		}
 	}
+}
+
+// TestInvokeErrs: each Err alone, and with all that come behind it.
+func TestInvokeErrs(t *testing.T) {
+	everyCause(func(s impl.Store, f int64, args []uint64, fuel int64, err int64) {
+		got := impl.Invoke(s, f, args, fuel)
+		if got.Err != err || err != 0 && !same(got, impl.RunRes{Err: err}) {
+			t.Fatalf("f %d, %v, fuel %d: Err %d, want %d", f, args, fuel, got.Err, err)
+		}
+	})
+	s := stage("i32 i64 f32 f64 -> i64", "", "local.get 1")
 	if got := impl.Invoke(s, 4, ends(1, 1<<64-1, 3, 4), 5); got.Err != impl.RnOk || !slices.Equal(got.State.Stack, ends(1<<64-1)) {
 		t.Errorf("%+v", got)
 	}

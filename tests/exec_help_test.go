@@ -134,13 +134,14 @@ func checkStep(t *testing.T, what any, codes refCodes, was, now impl.RunRes) {
 // stepsSeen is how many steps of a run are looked at one by one.
 const stepsSeen = 120
 
-// checkRun holds a run against the other runner of the tests, and promises 11,
-// 12 and 14 with it: whole, and put aside behind every step.
+// checkRun holds a run against the other runner of the tests, and promises 11 to
+// 14 with it: whole, put aside behind every step, and by flat code.
 func checkRun(t *testing.T, what any, s impl.Store, f int64, args ...uint64) impl.RunRes {
 	t.Helper()
 	codes, given := codesOf(s), []any{copyOf(s), slices.Clone(args)}
 	whole := impl.Invoke(s, f, args, impl.FuelMax)
 	mustSame(t, what, whole, refInvoke(s, f, args, impl.FuelMax))
+	checkFlat(t, what, s, f, args, 0)
 	last := impl.Invoke(s, f, args, 0)
 	checkStep(t, what, codes, last, last)
 	for n := range min(whole.Used, stepsSeen) + 1 {

@@ -129,8 +129,10 @@ func (k maker) runModule() impl.Module {
 }
 
 // runStore has a run module linked to the host's functions.
-func (k maker) runStore() impl.Store {
-	r := impl.Instantiate(impl.StoreNew(), k.runModule(), []impl.Extern{extern(0, 0), extern(0, 1), extern(0, 2), extern(0, 3)})
+func (k maker) runStore() impl.Store { return k.runStoreOf(k.runModule()) }
+
+func (k maker) runStoreOf(m impl.Module) impl.Store {
+	r := impl.Instantiate(impl.StoreNew(), m, []impl.Extern{extern(0, 0), extern(0, 1), extern(0, 2), extern(0, 3)})
 	if r.Err != impl.LkOk {
 		panic("what the tests make is not linked")
 	}

@@ -234,31 +234,36 @@ func (r *refRunner) callee(c *refCall, x impl.Ins) int64 {
 func (r *refRunner) call(c *refCall, addr int64) {
 	f := r.s.Funcs[addr]
 	args := slices.Clone(c.take(len(f.Type.Params)))
-	switch f.Host {
+	if f.Host != 0 {
+		r.host(c, f.Host, args)
+		return
+	}
+	r.begin(addr, args)
+	c.push(r.finish(len(r.calls) - 1)...)
+}
+
+func (r *refRunner) host(c *refCall, host int64, args []uint64) {
+	switch host {
 	case 1, 2:
 		if len(r.s.Out) == 1000 {
 			panic(refTrap(10))
 		}
-		r.s.Out = append(r.s.Out, impl.Told{Host: f.Host, Val: args[0]})
-		return
+		r.s.Out = append(r.s.Out, impl.Told{Host: host, Val: args[0]})
 	case 3:
 		if len(r.s.In) == 0 {
 			r.s.In = []uint64{0}
 		}
 		c.push(r.s.In[0])
 		r.s.In = r.s.In[1:]
-		return
 	case 4:
 		panic(refTrap(10))
 	}
-	if len(r.calls) == 200 {
-		panic(refTrap(9))
-	}
-	r.begin(addr, args)
-	c.push(r.finish(len(r.calls) - 1)...)
 }
 
 func (r *refRunner) begin(addr int64, args []uint64) {
+	if len(r.calls) == 200 {
+		panic(refTrap(9))
+	}
 	locals := append(args, make([]uint64, len(r.s.Funcs[addr].Locals))...)
 	r.calls = append(r.calls, &refCall{addr: addr, locals: locals, scopes: make([]refScope, 1)})
 }

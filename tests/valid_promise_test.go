@@ -24,10 +24,12 @@ func closedBody(list []impl.Ins) []impl.Ins {
 
 // walk goes through all bodies of at most left more instructions out of an
 // alphabet; behind an instruction that is wrong there is nothing more to see.
+// What is to be seen of a body that is valid, see does.
 type walk struct {
 	t        *testing.T
 	alphabet []impl.Ins
 	m        impl.Module
+	see      func(m impl.Module)
 	bodies   int
 	valid    int
 }
@@ -46,7 +48,7 @@ func (w *walk) check(list []impl.Ins) {
 		return
 	}
 	w.valid++
-	checkStacks(w.t, w.m.Codes[1].Body, w.m, 1, wantStacks(w.m, 1))
+	w.see(w.m)
 }
 
 // stands tells whether an instruction can stand behind a list, as to blocks.
@@ -104,7 +106,8 @@ func TestEveryShortBody(t *testing.T) {
 	}
 	for _, r := range rows {
 		m := bodyModule(funcType(r.ty), nil)
-		w := walk{t: t, alphabet: asm(r.alphabet), m: m}
+		see := func(m impl.Module) { checkStacks(t, m.Codes[1].Body, m, 1, wantStacks(m, 1)) }
+		w := walk{t: t, alphabet: asm(r.alphabet), m: m, see: see}
 		w.from(newRefBody(m, 1), nil, r.left)
 		t.Logf("%s: %d bodies, %d of them valid", r.alphabet, w.bodies, w.valid)
 		if w.valid < 100 || w.bodies < 10*w.valid/9 {
