@@ -135,7 +135,8 @@ func checkStep(t *testing.T, what any, codes refCodes, was, now impl.RunRes) {
 const stepsSeen = 120
 
 // checkRun holds a run against the other runner of the tests, and promises 11 to
-// 14 with it: whole, put aside behind every step, and by flat code.
+// 14 with it: whole, put aside and written down behind every step, and by flat
+// code.
 func checkRun(t *testing.T, what any, s impl.Store, f int64, args ...uint64) impl.RunRes {
 	t.Helper()
 	codes, given := codesOf(s), []any{copyOf(s), slices.Clone(args)}
@@ -155,7 +156,7 @@ func checkRun(t *testing.T, what any, s impl.Store, f int64, args ...uint64) imp
 			mustSame(t, what, refResume(last.Store, last.State, 1), step)
 			checkStep(t, what, codes, last, part)
 		}
-		rest := impl.Resume(part.Store, part.State, impl.FuelMax-n)
+		rest := impl.Resume(part.Store, written(t, what, part.State), impl.FuelMax-n)
 		rest.Used += n
 		mustSame(t, what, rest, whole)
 		last = part
