@@ -34,8 +34,10 @@ func hosted(lines string) impl.Store {
 //   - a memory of one page, which has 00 to 0f at its beginning, f0 to ff at its
 //     end, and may have three pages
 //   - globals: i32 40, i64 -1, f32 1, f64 -1, all Mut
-func stage(ty, locals, body string) impl.Store {
-	return hosted("type " + ty + "; type i32 ->; type i64 ->; type -> i32; type ->; type i32 i64 -> i64; type f32 f64 i32 i64 -> f64; " +
+func stage(ty, locals, body string) impl.Store { return hosted(stageLines(ty, locals, body)) }
+
+func stageLines(ty, locals, body string) string {
+	return "type " + ty + "; type i32 ->; type i64 ->; type -> i32; type ->; type i32 i64 -> i64; type f32 f64 i32 i64 -> f64; " +
 		`import "h" "out32" func 1; import "h" "out64" func 2; import "h" "in" func 3; import "h" "fail" func 4; ` +
 		"func 0; func 5; func 4; func 6; func 4; table 8; memory 1 3; " +
 		"global i32 var; i32.const 40; end; global i64 var; i64.const -1; end; global f32 var; f32.const 0x3f800000; end; " +
@@ -48,7 +50,7 @@ func stage(ty, locals, body string) impl.Store {
 		"code 1 f32 1 i64; local.get 0; local.set 4; local.get 3; local.set 5; local.get 1; end; " +
 		"code; unreachable; end; " +
 		`data "\00\01\02\03\04\05\06\07\08\09\0a\0b\0c\0d\0e\0f"; i32.const 0; end; ` +
-		`data "\f0\f1\f2\f3\f4\f5\f6\f7\f8\f9\fa\fb\fc\fd\fe\ff"; i32.const 65520; end`)
+		`data "\f0\f1\f2\f3\f4\f5\f6\f7\f8\f9\fa\fb\fc\fd\fe\ff"; i32.const 65520; end`
 }
 
 // mustSame holds an answer of Invoke or Resume against another one.
